@@ -22,7 +22,7 @@ func Check(c api.Context) api.Errno {
 		if !right(d) || d.Seq <= c.Clock[d.Node]+1 {
 			return api.ErrForm
 		}
-		if i > 0 && order(c.Cloud[i-1], d) >= 0 {
+		if i > 0 && Order(c.Cloud[i-1], d) >= 0 {
 			return api.ErrForm
 		}
 	}
@@ -110,6 +110,40 @@ func Minus(a, b api.Context) ([]api.Dot, api.Errno) {
 	if e := checkBoth(a, b); e != api.OK {
 		return nil, e
 	}
+	return missing(a, b)
+}
+
+// Without, which tables need beside the listed calls: Check's error; else the context that has what
+// c has, but the dots of l; ErrLarge, if the Cloud would have more than 400.
+func Without(c api.Context, l []api.Dot) (api.Context, api.Errno) {
+	if e := Check(c); e != api.OK {
+		return api.Context{}, e
+	}
+	clock := c.Clock
+	for _, d := range l {
+		if isNode(d.Node) && d.Seq >= 1 {
+			clock[d.Node] = min(clock[d.Node], d.Seq-1)
+		}
+	}
+	// What c has beyond the lower clocks, but l, is what is left for the cloud.
+	cloud, e := missing(c, api.Context{Clock: clock, Cloud: l})
+	if e != api.OK {
+		return api.Context{}, e
+	}
+	return api.Context{Clock: clock, Cloud: cloud}, api.OK
+}
+
+// Order, which tables need beside the listed calls: below 0, if a comes ahead of b, above 0, if it
+// comes behind it.
+func Order(a, b api.Dot) int {
+	if n := cmp.Compare(a.Node, b.Node); n != 0 {
+		return n
+	}
+	return cmp.Compare(a.Seq, b.Seq)
+}
+
+// missing: the dots that a has and b hasn't, in order; ErrLarge, if there are more than 400.
+func missing(a, b api.Context) ([]api.Dot, api.Errno) {
 	var l []api.Dot
 	for node := range api.Nodes {
 		l = appendMissing(l, a, b, node)
@@ -149,7 +183,7 @@ func rising(a, b []api.Dot) []api.Dot {
 	l := make([]api.Dot, 0, len(a)+len(b))
 	l = append(l, a...)
 	l = append(l, b...)
-	slices.SortFunc(l, order)
+	slices.SortFunc(l, Order)
 	return l
 }
 
@@ -178,12 +212,4 @@ func right(d api.Dot) bool {
 // isNode: is n a node's number?
 func isNode(n int) bool {
 	return n >= 0 && n < api.Nodes
-}
-
-// order: below 0, if a comes ahead of b, above 0, if it comes behind it.
-func order(a, b api.Dot) int {
-	if n := cmp.Compare(a.Node, b.Node); n != 0 {
-		return n
-	}
-	return cmp.Compare(a.Seq, b.Seq)
 }

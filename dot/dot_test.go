@@ -344,7 +344,7 @@ func TestMinusAtTheLimit(t *testing.T) {
 		{api.Context{}, context([4]int{api.MaxSeq, api.MaxSeq}), 0},
 	} {
 		l, e := Minus(x.a, x.b)
-		if e != api.OK || len(l) != x.n || !slices.IsSortedFunc(l, order) {
+		if e != api.OK || len(l) != x.n || !slices.IsSortedFunc(l, Order) {
 			t.Error(x.a, x.b, l, e)
 		}
 	}
