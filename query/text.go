@@ -7,6 +7,9 @@ import (
 	"viewmere/api"
 )
 
+// maxDigits: how many digits a number of a line has at most.
+const maxDigits = 10
+
 // Print: P11.
 func Print(q []api.Step) (string, api.Errno) {
 	if e := Check(q); e != api.OK {
@@ -98,7 +101,7 @@ func parsePart(s *api.Step, part byte, word string) bool {
 	case partList:
 		s.List, ok = parseList(word)
 	default:
-		*field(s, part), ok = parseNumber(word)
+		*field(s, part), ok = Number(word, maxDigits)
 	}
 	return ok
 }
@@ -107,7 +110,7 @@ func parsePart(s *api.Step, part byte, word string) bool {
 func parseList(word string) ([]int, bool) {
 	var l []int
 	for _, w := range strings.Split(word, ",") {
-		n, ok := parseNumber(w)
+		n, ok := Number(w, maxDigits)
 		if !ok {
 			return nil, false
 		}
@@ -116,9 +119,10 @@ func parseList(word string) ([]int, bool) {
 	return l, true
 }
 
-// parseNumber: a number of one to ten digits.
-func parseNumber(word string) (int, bool) {
-	if len(strings.TrimPrefix(word, "-")) > 10 {
+// Number, which a desk needs beside the listed calls: the number that a word of at most so many digits
+// tells; false, if it tells none.
+func Number(word string, digits int) (int, bool) {
+	if len(strings.TrimPrefix(word, "-")) > digits {
 		return 0, false
 	}
 	n, err := strconv.Atoi(word)

@@ -268,6 +268,20 @@ func TestNumbers(t *testing.T) {
 	}
 }
 
+// A number of a desk's lines has fewer digits.
+func TestNumberOfFewerDigits(t *testing.T) {
+	for word, want := range map[string]int{"0": 0, "7": 7, "-7": -7, "999999": 999999, "-999999": -999999, "100000": 100000} {
+		if n, ok := Number(word, 6); !ok || n != want {
+			t.Error(word, n, ok)
+		}
+	}
+	for _, word := range []string{"", "-", "-0", "00", "01", "-01", "+1", "1000000", "-1000000", "0000001", "x", " 1", "1 ", "1_0", "--1"} {
+		if n, ok := Number(word, 6); ok || n != 0 {
+			t.Error(word, n, ok)
+		}
+	}
+}
+
 // P1: any bytes are answered.
 func TestAnyBytes(t *testing.T) {
 	words := []string{"table", "where", "pick", "join", " ", "\n", "0", "-", ",", "<", "1", "\xff", "\x00", "é"}
